@@ -1,0 +1,1 @@
+"""Neverdark: sealed names that change and are never dark."""
