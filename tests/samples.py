@@ -176,3 +176,56 @@ def broken(form):
     """Return lines of the form with a newline behind one of their words."""
     words = good(form).split(" ")
     return [" ".join([*words[:at], f"{words[at]}\n", *words[at + 1:]]) for at in range(len(words))]
+
+
+def wrong_kinds(value):
+    """Return copies of the value in which one place has a value of another kind."""
+    if isinstance(value, str):
+        return [5, 0, (), ("a",), (value,), ((),)]
+    if isinstance(value, int):
+        return ["", "5", str(value), (), (value,), ("a", "b")]
+    rows = ["", "ab", "a", 0, 7, (value,)]
+    for at, part in enumerate(value):
+        rows.extend([value[:at] + (wrong,) + value[at + 1:] for wrong in wrong_kinds(part)])
+    return rows
+
+
+def replaced(value, pool):
+    """Return copies of the value in which one place has a value of the pool."""
+    rows = list(pool)
+    if isinstance(value, tuple):
+        for at, part in enumerate(value):
+            rows.extend([value[:at] + (other,) + value[at + 1:] for other in replaced(part, pool)])
+            rows.append(value[:at] + value[at + 1:])
+    return rows
+
+
+# A realm with zones up to four labels deep, some of whose parents lie several labels above them.
+REALM = (
+    ((".", 2), ("a", 3), ("d.c.b.a", 0), ("land", 100), ("shop.land", 1), ("z.y.x", 4)),
+    ("k1", "r", "s"),
+    ((".", "ns"), ("d.c.b.a", "v"), ("sea", "v"), ("www.shop.land", "a"), ("www.shop.land", "b"), ("z.y.x", "v")),
+)
+REALM_SLOTS = (
+    ("keys", "."),
+    ("keys", "a"), ("link", "a"), ("hosts", "a"),
+    ("keys", "d.c.b.a"), ("link", "d.c.b.a"), ("hosts", "d.c.b.a"),
+    ("keys", "land"), ("link", "land"), ("hosts", "land"),
+    ("keys", "shop.land"), ("link", "shop.land"), ("hosts", "shop.land"),
+    ("keys", "z.y.x"), ("link", "z.y.x"), ("hosts", "z.y.x"),
+    ("set", ".", "ns"), ("set", "d.c.b.a", "v"), ("set", "sea", "v"), ("set", "www.shop.land", "a"),
+    ("set", "www.shop.land", "b"), ("set", "z.y.x", "v"),
+)
+SEALED_ITEM = (("a", "b"), 20, ("r",), 0, 90)
+OTHER_ITEM = (("c",), 1000, (), 5, 10000)
+HOSTS_ITEM = (("s1", "s2"), 20, (), 0, 10000)
+OTHER_HOSTS = ((), 1, (), 0, 10000)
+
+
+def state_of(realm_slots, on):
+    """Return a state with these slots, whose items are the two above."""
+    items = [(slot, HOSTS_ITEM if slot[0] == "hosts" else SEALED_ITEM) for slot in realm_slots]
+    return (tuple(items), on)
+
+
+STATE = state_of(REALM_SLOTS, (("s1", "a"), ("s1", "land"), ("s2", "land"), ("x", "z.y.x")))

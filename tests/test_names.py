@@ -9,6 +9,16 @@ STRANGE = ["A", "Z", "-", "_", "+", "*", " ", "\t", "\n", "\r", ",", "=", ":", "
            "\u00e4", "\u00df", "\u0131", "\u017f", "\u0430", "\u00b2", "\u0663", "\uff11", "\uff41", "\u2460"]
 
 
+class CharactersTest(unittest.TestCase):
+    def test_every_character(self):
+        for letter in [chr(code) for code in range(0x3000)] + ["\uff11", "\uff41", "\U0001d7ce"]:
+            right = letter in list("abcdefghijklmnopqrstuvwxyz0123456789")
+            self.assertIs(is_id(letter), right, repr(letter))
+            self.assertIs(is_label(letter), right, repr(letter))
+            self.assertIs(is_name(letter), right or letter == ".", repr(letter))
+            self.assertIs(is_number(letter), letter in list("0123456789"), repr(letter))
+
+
 class IdsTest(unittest.TestCase):
     def test_lengths(self):
         self.assertIs(is_id(""), False)

@@ -1,0 +1,50 @@
+"""The names and arguments of the interface, each defined in the file under which it stands."""
+
+import importlib
+import inspect
+import unittest
+
+FUNCTIONS = {
+    "names": {"is_id": "text", "is_label": "text", "is_name": "text", "labels": "name", "ends": "name other",
+              "chain": "zones name", "zone_of": "zones name"},
+    "reader": {"read_case": "text", "read_plan": "text", "read_table": "text", "read_history": "text"},
+    "printer": {"case_text": "case", "plan_text": "plan", "table_text": "table", "history_text": "history"},
+    "realms": {"is_realm": "value", "zone_names": "realm", "slots": "realm", "parent": "realm zone",
+               "home": "realm slot", "lag_of": "realm slot", "is_slot": "realm value", "is_item": "slot value",
+               "is_state": "realm value", "item_of": "state slot", "is_on": "state server zone",
+               "is_deed": "realm state value", "after": "realm state deed", "is_plan": "realm state value",
+               "state_at": "realm state plan moment"},
+    "chains": {"needed": "realm name kind", "is_good": "item moment", "fits": "slot item other other_item",
+               "fault": "realm held name kind moment"},
+}
+CLASSES = {
+    "errors": {"NeverdarkError": {}, "BadText": {"__init__": "self line"}, "NotAllowed": {"__init__": "self word"}},
+    "worlds": {"World": {"__init__": "self realm state plan", "current": "self slot moment",
+                         "is_on": "self server zone moment"}},
+}
+
+
+def arguments(function):
+    return list(inspect.signature(function).parameters)
+
+
+class InterfaceTest(unittest.TestCase):
+    def test_functions(self):
+        for module, rows in FUNCTIONS.items():
+            held = importlib.import_module(f"neverdark.{module}")
+            for name, wanted in rows.items():
+                function = getattr(held, name)
+                self.assertEqual(arguments(function), wanted.split(), name)
+                self.assertEqual(function.__module__, f"neverdark.{module}", name)
+
+    def test_classes(self):
+        for module, rows in CLASSES.items():
+            held = importlib.import_module(f"neverdark.{module}")
+            for name, methods in rows.items():
+                self.assertEqual(getattr(held, name).__module__, f"neverdark.{module}", name)
+                for method, wanted in methods.items():
+                    self.assertEqual(arguments(vars(getattr(held, name))[method]), wanted.split(), (name, method))
+
+
+if __name__ == "__main__":
+    unittest.main()
