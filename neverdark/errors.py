@@ -9,7 +9,7 @@ class BadText(NeverdarkError):
     """A text has a wrong line; `line` is its number, counted from 1."""
 
     def __init__(self, line):
-        NeverdarkError.__init__(self, f"line {line} is wrong")
+        super().__init__(f"line {line} is wrong")
         self.line = line
 
 
@@ -17,5 +17,5 @@ class NotAllowed(NeverdarkError):
     """Something was asked for that is not allowed; `word` says what."""
 
     def __init__(self, word):
-        NeverdarkError.__init__(self, f"not allowed: {word}")
+        super().__init__(f"not allowed: {word}")
         self.word = word
