@@ -13,6 +13,16 @@ def needed(realm, name, kind):
     return tuple(found)
 
 
+def seal_pairs(realm):
+    """Return the tuple of the pairs of a slot and the slot before it among some needed slots, each pair once."""
+    found = {}
+    for name, kind in realm[2]:
+        places = needed(realm, name, kind)
+        for other, slot in zip(places, places[1:]):
+            found[(slot, other)] = True
+    return tuple(found)
+
+
 def is_good(item, moment):
     """Tell if the item is good at the moment."""
     return item[3] <= moment <= item[4]
@@ -28,12 +38,17 @@ def fits(slot, item, other, other_item):
     return any([signer in named for signer in signers])
 
 
+def is_anchored(realm, item):
+    """Tell if an anchor is among the signers of the item."""
+    return any([signer in realm[1] for signer in item[2]])
+
+
 def trust_word(realm, held, places, at):
     """Return the word of the fault that the item at this place is not sealed rightly, or None."""
     slot = places[at]
     item = held[slot]
     if at == 0:
-        return None if any([signer in realm[1] for signer in item[2]]) else "anchor"
+        return None if is_anchored(realm, item) else "anchor"
     other = places[at - 1]
     return None if fits(slot, item, other, held[other]) else slot[0]
 

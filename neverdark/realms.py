@@ -179,6 +179,15 @@ def after(realm, state, deed):
     return changed(state, deed)
 
 
+def are_allowed(realm, state, deeds):
+    """Tell if each of the deeds is allowed in the state that those before it make."""
+    for deed in deeds:
+        if not is_deed(realm, state, deed):
+            return False
+        state = changed(state, deed)
+    return True
+
+
 def is_plan(realm, state, value):
     """Tell if the value is a plan for the state."""
     if not is_tuple_of(value, 0, MAX_PLAN):

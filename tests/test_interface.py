@@ -16,11 +16,17 @@ FUNCTIONS = {
                "state_at": "realm state plan moment"},
     "chains": {"needed": "realm name kind", "is_good": "item moment", "fits": "slot item other other_item",
                "fault": "realm held name kind moment"},
+    "askers": {"run_history": "world history"},
+    "holding": {"spans": "realm state plan slot", "off_spans": "state plan server zone",
+                "over": "realm slot item end", "can_hold": "realm state plan slot moment"},
+    "judge": {"judge": "realm state plan end", "history": "realm state plan end"},
+    "waits": {"rows_of": "realm state deeds end", "begun_rows": "realm state deeds end"},
 }
 CLASSES = {
     "errors": {"NeverdarkError": {}, "BadText": {"__init__": "self line"}, "NotAllowed": {"__init__": "self word"}},
     "worlds": {"World": {"__init__": "self realm state plan", "current": "self slot moment",
                          "is_on": "self server zone moment"}},
+    "askers": {"Asker": {"__init__": "self world", "handle": "self event", "now": "self", "kept": "self"}},
 }
 
 
