@@ -21,6 +21,16 @@ FUNCTIONS = {
                 "over": "realm slot item end", "can_hold": "realm state plan slot moment"},
     "judge": {"judge": "realm state plan end", "history": "realm state plan end"},
     "waits": {"rows_of": "realm state deeds end", "begun_rows": "realm state deeds end"},
+    "rings": {"keeps": "rows moments", "least_moments": "rows count", "find_ring": "rows count",
+              "is_ring": "rows ring"},
+    "tables": {"is_row_of_deeds": "realm state value", "is_bounds": "count value", "is_table": "count value",
+               "run_table": "table bounds delays", "plan_of": "deeds done",
+               "check_table": "realm state deeds bounds table end", "table_of_rows": "rows bounds",
+               "least_table": "realm state deeds bounds end",
+               "too_early": "realm state deeds bounds end done moment"},
+    "orders": {"is_possible": "realm state deeds before order", "finish": "realm state deeds bounds end order",
+               "bound": "realm state deeds bounds end beginning",
+               "best_order": "realm state deeds bounds end before"},
 }
 CLASSES = {
     "errors": {"NeverdarkError": {}, "BadText": {"__init__": "self line"}, "NotAllowed": {"__init__": "self word"}},
