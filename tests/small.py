@@ -258,3 +258,23 @@ def chosen(values, order):
 def all_delays(bounds):
     """Return all delays within the bounds."""
     return list(itertools.product(*[range(least, most + 1) for least, most in bounds]))
+
+
+def draw_pairs(draw, count):
+    """Return pairs by which no deed stands before itself."""
+    line = draw.sample(range(1, count + 1), count)
+    pairs = [pair for pair in itertools.combinations(line, 2) if draw.random() < 0.15]
+    return tuple(sorted(pairs))
+
+
+def order_cases(seeds, counts=(1, 2, 3, 4)):
+    """Return worlds with deeds in any order, bounds, an end and pairs."""
+    found = []
+    for seed in range(seeds):
+        draw = random.Random(seed)
+        count = draw.choice(counts)
+        realm, state, deeds = draw_change(seed, count) if seed % 3 else draw_world(seed, count, 1)
+        deeds = tuple(draw.sample(deeds, len(deeds)))
+        bounds = tuple([(least, least + draw.choice([0, 1, 6])) for least in draw.choices([0, 1, 2], k=len(deeds))])
+        found.append((realm, state, deeds, bounds, draw.choice([10, 30, 60]), draw_pairs(draw, len(deeds))))
+    return found

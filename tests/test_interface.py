@@ -31,12 +31,22 @@ FUNCTIONS = {
     "orders": {"is_possible": "realm state deeds before order", "finish": "realm state deeds bounds end order",
                "bound": "realm state deeds bounds end beginning",
                "best_order": "realm state deeds bounds end before"},
+    "order_papers": {"order_paper": "realm state deeds bounds end before",
+                     "check_paper": "realm state deeds bounds end before answer paper"},
+    "lost": {"is_lost": "realm value", "is_strange": "realm state plan zone key",
+             "can_plant": "realm state plan lost slot item moment",
+             "can_be_false": "realm state plan lost name kind moment",
+             "clean_from": "realm state plan lost name kind end",
+             "false_history": "realm state plan lost name kind moment"},
+    "book": {"read_book": "text", "entry_line": "entry"},
 }
 CLASSES = {
     "errors": {"NeverdarkError": {}, "BadText": {"__init__": "self line"}, "NotAllowed": {"__init__": "self word"}},
     "worlds": {"World": {"__init__": "self realm state plan", "current": "self slot moment",
                          "is_on": "self server zone moment"}},
     "askers": {"Asker": {"__init__": "self world", "handle": "self event", "now": "self", "kept": "self"}},
+    "hand": {"Hand": {"__init__": "self table count text", "next": "self moment", "see": "self moment",
+                      "book": "self", "done": "self"}},
 }
 
 

@@ -1,7 +1,6 @@
 """8.1 to 8.4: the order of the deeds that is finished first."""
 
 import itertools
-import random
 import time
 import unittest
 
@@ -9,7 +8,7 @@ from neverdark.orders import best_order, bound, finish, is_possible
 from neverdark.realms import slots
 from neverdark.tables import is_row_of_deeds, least_table, run_table, table_of_rows
 from neverdark.waits import begun_rows
-from tests.small import chosen, draw_change, draw_world, hosts, item, orders, realm_of, state_of
+from tests.small import chosen, hosts, item, order_cases, orders, realm_of, state_of
 
 REALM = realm_of({".": 1, "land": 2}, ((".", "ns"), ("land", "v")))
 KEYS = ("keys", "land")
@@ -200,29 +199,10 @@ def plain_finish(realm, state, row, bounds, end):
     return None if table is None else run_table(table, bounds, [most for _, most in bounds])[1][-1]
 
 
-def draw_pairs(draw, count):
-    """Return pairs by which no deed stands before itself."""
-    line = draw.sample(range(1, count + 1), count)
-    pairs = [pair for pair in itertools.combinations(line, 2) if draw.random() < 0.15]
-    return tuple(sorted(pairs))
-
-
 class DrawnTest(unittest.TestCase):
-    def cases(self, seeds):
-        """Return worlds with deeds in any order, bounds, an end and pairs."""
-        found = []
-        for seed in range(seeds):
-            draw = random.Random(seed)
-            count = draw.choice([1, 2, 3, 4])
-            realm, state, deeds = draw_change(seed, count) if seed % 3 else draw_world(seed, count, 1)
-            deeds = tuple(draw.sample(deeds, len(deeds)))
-            bounds = tuple([(least, least + draw.choice([0, 1, 6])) for least in draw.choices([0, 1, 2], k=len(deeds))])
-            found.append((realm, state, deeds, bounds, draw.choice([10, 30, 60]), draw_pairs(draw, len(deeds))))
-        return found
-
     def test_going_through_all_orders(self):
         found = {True: 0, False: 0}
-        for realm, state, deeds, bounds, end, before in self.cases(300):
+        for realm, state, deeds, bounds, end, before in order_cases(300):
             wanted = plain_best(deeds, bounds, end, before, realm, state)
             told = best_order(realm, state, deeds, bounds, end, before)
             self.assertEqual(told, wanted, (realm, state, deeds, bounds, end, before))
@@ -234,7 +214,7 @@ class DrawnTest(unittest.TestCase):
 
     def test_bounds_and_finishes(self):
         found = {True: 0, False: 0}
-        for realm, state, deeds, bounds, end, _ in self.cases(200):
+        for realm, state, deeds, bounds, end, _ in order_cases(200):
             rows = [order for order in orders(len(deeds)) if is_row_of_deeds(realm, state, chosen(deeds, order))]
             finishes = {order: finish(realm, state, deeds, bounds, end, order) for order in rows}
             for order, moment in finishes.items():
