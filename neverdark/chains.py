@@ -3,10 +3,13 @@
 from neverdark.names import chain
 from neverdark.realms import zone_names
 
+# The slot whose keys nobody above names: an asker has to trust them.
+ROOT = ("keys", ".")
+
 
 def needed(realm, name, kind):
     """Return the tuple of the slots that are needed to show a set, from the root downwards."""
-    found = [("keys", ".")]
+    found = [ROOT]
     for zone in chain(zone_names(realm), name)[1:]:
         found.extend([("link", zone), ("keys", zone)])
     found.append(("set", name, kind))

@@ -1,6 +1,6 @@
 """The judge: the least moment at which some asker can be dark, and a history that shows it."""
 
-from neverdark.chains import fits, is_anchored, needed, seal_pairs
+from neverdark.chains import ROOT, fits, is_anchored, needed, seal_pairs
 from neverdark.holding import held_spans, is_before, off_spans
 from neverdark.names import chain
 from neverdark.realms import home, slots, zone_names
@@ -49,9 +49,8 @@ def bad_ways(held):
 
 def anchor_ways(realm, held):
     """Return the ways by a keys item of the root that no anchor has sealed."""
-    slot = ("keys", ".")
-    rows = [row for row in held[slot] if not is_anchored(realm, row[0])]
-    return [Darkness(row[1], "anchor", slot, ((slot, row),)) for row in rows]
+    rows = [row for row in held[ROOT] if not is_anchored(realm, row[0])]
+    return [Darkness(row[1], "anchor", ROOT, ((ROOT, row),)) for row in rows]
 
 
 def lame_ways(state, plan, slot, row):
@@ -106,17 +105,35 @@ def rank(above, way):
     return (way.moment, 1, above[way.slot], 0 if way.word in ("early", "late") else 1)
 
 
-def first_way(realm, state, plan, end):
-    """Return the way to be dark that comes first, or None if there is none up to the end."""
-    held = {slot: held_spans(realm, state, plan, slot) for slot in slots(realm)}
-    ways = bad_ways(held) + anchor_ways(realm, held) + hosts_ways(state, plan, held) + unfit_ways(realm, held)
+def shared_ways(realm, state, plan, held):
+    """Return the ways to be dark that do not ask who is trusted at the root."""
+    return bad_ways(held) + hosts_ways(state, plan, held) + unfit_ways(realm, held)
+
+
+def all_held(realm, state, plan):
+    """Return a dict from the slots to the held spans of their items."""
+    return {slot: held_spans(realm, state, plan, slot) for slot in slots(realm)}
+
+
+def least_way(realm, ways, end):
+    """Return the way that comes first, or None if there is none up to the end."""
     above = places(realm)
     return min([way for way in ways if way.moment <= end], key=lambda way: rank(above, way), default=None)
 
 
+def first_way(realm, state, plan, end):
+    """Return the way to be dark that comes first, or None if there is none up to the end."""
+    held = all_held(realm, state, plan)
+    return least_way(realm, anchor_ways(realm, held) + shared_ways(realm, state, plan, held), end)
+
+
 def judge(realm, state, plan, end):
     """Return the least moment of darkness with a word and a slot, or None if there is none up to the end."""
-    way = first_way(realm, state, plan, end)
+    return told_of(first_way(realm, state, plan, end))
+
+
+def told_of(way):
+    """Return what is told of a way to be dark, or None if there is none."""
     return None if way is None else (way.moment, way.word, way.slot)
 
 
@@ -145,14 +162,21 @@ def last_events(realm, way):
     return asks[:1]
 
 
+def fetch_steps(realm, way):
+    """Return when an asker fetches what it has to hold, with the events, one after another."""
+    rows = sorted([fetch_of(way.moment, slot, row) for slot, row in way.holds])
+    return [(moment, fetch_events(realm, moment, slot, pick)) for moment, slot, pick in rows]
+
+
+def history_of(realm, way, steps):
+    """Return the history of these steps, moments with their events, that ends with the dark answer."""
+    events = []
+    for _, part in steps:
+        events.extend(part)
+    return tuple([*events, ("go", way.moment), *last_events(realm, way)])
+
+
 def history(realm, state, plan, end):
     """Return a history whose last answer is the first dark one, or None if `judge` tells none."""
     way = first_way(realm, state, plan, end)
-    if way is None:
-        return None
-    events = []
-    for moment, slot, pick in sorted([fetch_of(way.moment, slot, row) for slot, row in way.holds]):
-        events.extend(fetch_events(realm, moment, slot, pick))
-    events.append(("go", way.moment))
-    events.extend(last_events(realm, way))
-    return tuple(events)
+    return None if way is None else history_of(realm, way, fetch_steps(realm, way))

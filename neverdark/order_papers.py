@@ -32,7 +32,8 @@ def is_broken(claim, beginning, i):
 
 def is_forbidden(claim, beginning):
     """Tell if the last deed of the beginning is the first one that is not allowed."""
-    return len(beginning) > 0 and is_allowed_row(claim, beginning[:-1]) and not is_allowed_row(claim, beginning)
+    # At the root there is none: no deeds are allowed one after another.
+    return is_allowed_row(claim, beginning[:-1]) and not is_allowed_row(claim, beginning)
 
 
 def is_hopeless(claim, beginning):

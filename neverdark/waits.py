@@ -1,6 +1,6 @@
 """Waits: the rows that the moments of some deeds have to keep so that no asker can be dark."""
 
-from neverdark.chains import fits, is_anchored, seal_pairs
+from neverdark.chains import ROOT, fits, is_anchored, seal_pairs
 from neverdark.errors import NotAllowed
 from neverdark.holding import off_spans, spans
 from neverdark.realms import are_allowed, lag_of, slots
@@ -52,17 +52,15 @@ def good_rows(ground, found, is_whole):
     return rows
 
 
-def is_hopeless(realm, slot, item):
-    """Tell if an asker with the item is dark whatever else it has."""
-    if slot[0] == "hosts":
-        return item[0] == ()
-    return slot == ("keys", ".") and not is_anchored(realm, item)
+def empty_rows(found):
+    """Return the rows of the hosts items that name nobody: no asker may ever have one."""
+    rows = [item for slot, places in found.items() if slot[0] == "hosts" for item, _, _ in places]
+    return [NEVER for item in rows if item[0] == ()]
 
 
-def hopeless_rows(ground, found):
-    """Return the rows of the items that no asker may ever have."""
-    rows = [(slot, place) for slot, places in found.items() for place in places]
-    return [NEVER for slot, place in rows if is_hopeless(ground.realm, slot, place[0])]
+def anchor_rows(ground, found):
+    """Return the rows of the keys items of the root that no anchor has sealed."""
+    return [NEVER for item, _, _ in found[ROOT] if not is_anchored(ground.realm, item)]
 
 
 def wait_row(ended, begin, lag, item):
@@ -113,31 +111,48 @@ def hosts_rows(ground, state, steps, found):
     return rows
 
 
-def ground_rows(ground, state, deeds, is_whole):
-    """Return the rows of deeds that are allowed: all of them, or those of a beginning."""
-    # With the deed k at the moment k, the moments in the spans are the numbers of the deeds.
-    steps = list(enumerate(deeds, start=1))
-    found = {slot: spans(ground.realm, state, steps, slot) for slot in ground.lags}
-    rows = order_rows(len(deeds), ground.end)
+def numbered(deeds):
+    """Return the deeds as a plan that has the deed k at the moment k."""
+    # The moments in the spans of such a plan are the numbers of the deeds.
+    return list(enumerate(deeds, start=1))
+
+
+def all_spans(ground, state, steps):
+    """Return a dict from the slots to their spans in a plan."""
+    return {slot: spans(ground.realm, state, steps, slot) for slot in ground.lags}
+
+
+def shared_rows(ground, state, steps, found, is_whole):
+    """Return the rows that do not ask who is trusted at the root."""
+    rows = order_rows(len(steps), ground.end)
     rows.extend(good_rows(ground, found, is_whole))
-    rows.extend(hopeless_rows(ground, found))
+    rows.extend(empty_rows(found))
     rows.extend(seal_rows(ground, found))
     rows.extend(hosts_rows(ground, state, steps, found))
+    return rows
+
+
+def ground_rows(ground, state, deeds, is_whole):
+    """Return the rows of deeds that are allowed: all of them, or those of a beginning."""
+    steps = numbered(deeds)
+    found = all_spans(ground, state, steps)
+    rows = shared_rows(ground, state, steps, found, is_whole) + anchor_rows(ground, found)
     return tuple(sorted(set(rows)))
 
 
-def checked_rows(realm, state, deeds, end, is_whole):
-    """Return the rows; raise NotAllowed("deeds") if some deed is not allowed in its turn."""
+def check_deeds(realm, state, deeds):
+    """Raise NotAllowed("deeds") if some deed is not allowed in its turn."""
     if not are_allowed(realm, state, deeds):
         raise NotAllowed("deeds")
-    return ground_rows(Ground(realm, end), state, deeds, is_whole)
 
 
 def rows_of(realm, state, deeds, end):
     """Return the rows that the moments of the deeds keep exactly if no asker can be dark up to the end."""
-    return checked_rows(realm, state, deeds, end, True)
+    check_deeds(realm, state, deeds)
+    return ground_rows(Ground(realm, end), state, deeds, True)
 
 
 def begun_rows(realm, state, deeds, end):
     """Return those rows of a beginning of the deeds that stay whatever deeds come behind."""
-    return checked_rows(realm, state, deeds, end, False)
+    check_deeds(realm, state, deeds)
+    return ground_rows(Ground(realm, end), state, deeds, False)

@@ -6,6 +6,7 @@ import random
 
 from neverdark.chains import fault, needed
 from neverdark.realms import after, home, is_deed, is_realm, is_state, lag_of, slots, zone_names
+from neverdark.tables import is_table
 from neverdark.worlds import World
 
 LAST = 10000
@@ -194,8 +195,11 @@ class Reach:
                 self.kept[slot][found] = max(moment + found[1], self.kept[slot].get(found, 0))
         return dark
 
-    def step(self, moment):
-        """Go to the moment; return all dark answers (a word and a slot) that are possible at it."""
+    def step(self, moment, trusting=None):
+        """Go to the moment; return all dark answers (a word and a slot) that are possible at it.
+
+        `trusting` are realms with the keys of the root that are trusted as their anchors.
+        """
         dark = set()
         for slot in self.order:
             self.kept[slot] = {held: until for held, until in self.kept[slot].items() if moment < until}
@@ -203,9 +207,10 @@ class Reach:
         for name, kind in self.realm[2]:
             places = needed(self.realm, name, kind)
             for held in itertools.product(*[self.kept[slot] for slot in places]):
-                wrong = fault(self.realm, dict(zip(places, held)), name, kind, moment)
-                if wrong is not None:
-                    dark.add(wrong)
+                for realm in [self.realm] if trusting is None else trusting:
+                    wrong = fault(realm, dict(zip(places, held)), name, kind, moment)
+                    if wrong is not None:
+                        dark.add(wrong)
         return dark
 
 
@@ -278,3 +283,34 @@ def order_cases(seeds, counts=(1, 2, 3, 4)):
         bounds = tuple([(least, least + draw.choice([0, 1, 6])) for least in draw.choices([0, 1, 2], k=len(deeds))])
         found.append((realm, state, deeds, bounds, draw.choice([10, 30, 60]), draw_pairs(draw, len(deeds))))
     return found
+
+
+def draw_bounds(draw, count):
+    return tuple([(least, least + draw.choice([0, 1, 2])) for least in draw.choices([0, 1, 2, 3], k=count)])
+
+
+def draw_tables(draw, least, count):
+    """Return tables around the least one."""
+    found = [least]
+    for _ in range(3):
+        found.append(tuple([(k, j, max(1, wait + draw.choice([-1, 0, 0, 1]))) for k, j, wait in least]))
+        rows = [(k, j, draw.randint(1, 9)) for k in range(1, count + 1) for j in range(k) if draw.random() < 0.4]
+        found.append(tuple(rows))
+    return [table for table in found if is_table(count, table)]
+
+
+def plain_hand(bounds, end, is_bad):
+    """Return a function from the moments of the first deeds to the first moment that a safe hand may ask at.
+
+    `is_bad` tells of the moments of all deeds if they are late, or somebody can be dark.
+    """
+    @functools.cache
+    def first(done):
+        if len(done) == len(bounds):
+            return None if is_bad(done) else 0
+        least, most = bounds[len(done)]
+        for moment in range((*done, 0)[len(done) - 1] + 1, end + 1):
+            if all(first((*done, moment + delay)) is not None for delay in range(least, most + 1)):
+                return moment
+        return None
+    return first

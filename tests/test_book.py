@@ -58,10 +58,10 @@ class ReadBookTest(Books):
             moments = [f"0{moment}", f"+{moment}", f"-{moment}", "123456", "100000", f"{moment}.0", "x", "", "-1",
                        "\u0663", "\uff13", f"{moment}_0", f"{moment}\r", f"{moment}\x0b", "00"]
             wrong.extend([f"{word} {k} {other}" for other in moments])
-            wrong.extend([f"{word}  {k} {moment}", f"{word} {k}  {moment}", f" {line}", f"{line} ", f"{word}{k} {moment}",
-                          f"{word} {k}{moment}", f"{word} {k}", word, f"{line} {moment}", f"{word}\t{k} {moment}",
-                          f"{word} {k}\t{moment}", f"{line}\t", "", " ", f"{word} {k},{moment}", f"{word}\xa0{k} {moment}",
-                          f"{line}{line}", f"{line} {line}"])
+            wrong.extend([f"{word}  {k} {moment}", f"{word} {k}  {moment}", f" {line}", f"{line} ", f"{line}\t", "", " ",
+                          f"{word}{k} {moment}", f"{word} {k}{moment}", f"{word} {k}", word, f"{line} {moment}",
+                          f"{word}\t{k} {moment}", f"{word} {k}\t{moment}", f"{word} {k},{moment}",
+                          f"{word}\xa0{k} {moment}", f"{line}{line}", f"{line} {line}"])
             for other in wrong:
                 for behind in ("", "x", f"{line}\n", "nonsense\n", "\n"):
                     self.assert_bad(f"{before}{other}\n{behind}", at + 1)

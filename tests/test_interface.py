@@ -39,6 +39,13 @@ FUNCTIONS = {
              "clean_from": "realm state plan lost name kind end",
              "false_history": "realm state plan lost name kind moment"},
     "book": {"read_book": "text", "entry_line": "entry"},
+    "whole": {"is_case": "raw", "report": "case", "play": "case delays falls history"},
+    "followers": {"is_followed": "realm state deeds", "run_follower": "world rhythm history"},
+    "follow": {"in_mind": "realm state plan rhythm moment", "follow_judge": "realm state plan rhythm end",
+               "follow_history": "realm state plan rhythm end"},
+    "follow_tables": {"follow_rows": "realm state deeds rhythm end",
+                      "follow_table": "realm state deeds bounds rhythm end",
+                      "check_follow": "realm state deeds bounds table rhythm end"},
 }
 CLASSES = {
     "errors": {"NeverdarkError": {}, "BadText": {"__init__": "self line"}, "NotAllowed": {"__init__": "self word"}},
@@ -47,6 +54,14 @@ CLASSES = {
     "askers": {"Asker": {"__init__": "self world", "handle": "self event", "now": "self", "kept": "self"}},
     "hand": {"Hand": {"__init__": "self table count text", "next": "self moment", "see": "self moment",
                       "book": "self", "done": "self"}},
+    "followers": {"Follower": {"__init__": "self world rhythm", "handle": "self event", "now": "self", "kept": "self",
+                               "trusted": "self", "waiting": "self", "looked": "self"}},
+}
+CONSTANTS = {
+    "realms": {"MAX_TIME": 10000, "MAX_LIFE": 1000, "MAX_LAG": 100, "MAX_ZONES": 6, "MAX_ANCHORS": 3, "MAX_SETS": 8,
+               "MAX_IDS": 4, "MAX_SIGNERS": 3, "MAX_PLAN": 12},
+    "tables": {"MAX_DEEDS": 6, "MAX_DELAY": 1000},
+    "followers": {"MAX_RHYTHM": 1000},
 }
 
 
@@ -70,6 +85,13 @@ class InterfaceTest(unittest.TestCase):
                 self.assertEqual(getattr(held, name).__module__, f"neverdark.{module}", name)
                 for method, wanted in methods.items():
                     self.assertEqual(arguments(vars(getattr(held, name))[method]), wanted.split(), (name, method))
+
+    def test_constants(self):
+        for module, rows in CONSTANTS.items():
+            held = importlib.import_module(f"neverdark.{module}")
+            for name, wanted in rows.items():
+                self.assertEqual(getattr(held, name), wanted, name)
+                self.assertIs(type(getattr(held, name)), int, name)
 
 
 if __name__ == "__main__":

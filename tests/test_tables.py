@@ -1,6 +1,5 @@
 """7.1 to 7.8: tables of waits."""
 
-import functools
 import itertools
 import random
 import unittest
@@ -11,7 +10,8 @@ from neverdark.tables import (MAX_DEEDS, MAX_DELAY, check_table, is_bounds, is_r
                               plan_of, run_table, table_of_rows, too_early)
 from neverdark.waits import rows_of
 from tests.samples import replaced, wrong_kinds
-from tests.small import (all_delays, draw_change, draw_world, hosts, item, plan_at, realm_of, state_of)
+from tests.small import (all_delays, draw_bounds, draw_change, draw_tables, draw_world, hosts, item, plain_hand,
+                         plan_at, realm_of, state_of)
 
 REALM = realm_of({".": 1, "land": 2}, ((".", "ns"), ("land", "v")))
 KEYS = ("keys", "land")
@@ -234,20 +234,6 @@ class CheckTableTest(Checks):
         self.assertGreater(min(found.values()), 100)
 
 
-def draw_bounds(draw, count):
-    return tuple([(least, least + draw.choice([0, 1, 2])) for least in draw.choices([0, 1, 2, 3], k=count)])
-
-
-def draw_tables(draw, least, count):
-    """Return tables around the least one."""
-    found = [least]
-    for _ in range(3):
-        found.append(tuple([(k, j, max(1, wait + draw.choice([-1, 0, 0, 1]))) for k, j, wait in least]))
-        rows = [(k, j, draw.randint(1, 9)) for k in range(1, count + 1) for j in range(k) if draw.random() < 0.4]
-        found.append(tuple(rows))
-    return [table for table in found if is_table(count, table)]
-
-
 def is_bad(realm, state, deeds, done, end):
     """Tell if the last of these moments is late, or somebody can be dark up to the end."""
     return done[-1] > end or judge(realm, state, plan_at(done, deeds), end) is not None
@@ -362,7 +348,7 @@ class LeastTableTest(Checks):
     def test_the_least_of_all_hands(self):
         found = {True: 0, False: 0}
         for realm, state, deeds, bounds, end in self.cases(200, 3):
-            hand = plain_hand(realm, state, deeds, bounds, end)
+            hand = plain_hand(bounds, end, lambda done: is_bad(realm, state, deeds, done, end))
             table = least_table(realm, state, deeds, bounds, end)
             found[table is not None] += 1
             self.assertEqual(hand(()) is None, table is None, (realm, state, deeds, bounds, end))
@@ -387,20 +373,6 @@ class LeastTableTest(Checks):
                     self.assertIsNotNone(check_table(realm, state, deeds, bounds, other, end))
                     lessened += 1
         self.assertGreater(lessened, 30)
-
-
-def plain_hand(realm, state, deeds, bounds, end):
-    """Return a function from the moments of the first deeds to the first moment that a safe hand may ask at."""
-    @functools.cache
-    def first(done):
-        if len(done) == len(deeds):
-            return None if is_bad(realm, state, deeds, done, end) else 0
-        least, most = bounds[len(done)]
-        for moment in range((*done, 0)[len(done) - 1] + 1, end + 1):
-            if all(first((*done, moment + delay)) is not None for delay in range(least, most + 1)):
-                return moment
-        return None
-    return first
 
 
 class TooEarlyTest(Checks):
